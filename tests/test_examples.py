@@ -1,0 +1,19 @@
+"""The document's own examples, word by word: one file for each section that has landed; and those of README.md."""
+
+import doctest
+import unittest
+
+FILES = ("section_3.txt", "../README.md")
+
+
+class Examples(unittest.TestCase):
+    def test_each_file(self):
+        for name in FILES:
+            with self.subTest(name):
+                failed, tried = doctest.testfile(name)
+                self.assertGreater(tried, 0)
+                self.assertEqual(failed, 0)
+
+
+if __name__ == "__main__":
+    unittest.main()

@@ -1,0 +1,1 @@
+"""What the right to move blocks buys in memory that must be full."""
