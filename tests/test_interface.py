@@ -20,6 +20,33 @@ FUNCTIONS = {
         "request_octets": "sizes request", "request_at": "sizes octets at", "write_requests": "sizes requests",
         "read_requests": "sizes octets",
     },
+    "pictures": {
+        "units": "sizes pages level", "parent": "sizes pages level place", "children": "sizes pages level place",
+        "is_within": "sizes pages one other", "check_picture": "sizes pages value",
+        "free_cells": "sizes pages picture", "held_cells": "sizes pages picture",
+        "is_free": "sizes pages picture level place", "free_units": "sizes pages picture level",
+        "holes": "sizes pages picture", "block_of": "sizes pages picture handle",
+        "blocks_in": "sizes pages picture level place", "with_block": "sizes pages picture block",
+        "without": "sizes pages picture handle", "picture_octets": "sizes pages picture",
+        "picture_at": "sizes pages octets at",
+    },
+    "units": {
+        "free_children": "sizes pages picture level place", "torn_units": "sizes pages picture level",
+        "torn": "sizes pages picture level", "loose_levels": "sizes pages picture", "is_smooth": "sizes pages picture",
+        "loose_steps": "sizes pages picture level", "hole_counts": "sizes pages picture",
+        "free_digits": "sizes pages picture", "kind": "sizes pages picture",
+    },
+    "moves": {
+        "trail": "sizes pages picture moves", "moved": "sizes pages picture moves",
+        "cost": "sizes pages picture moves", "way_back": "sizes pages picture moves",
+        "elsewhere": "sizes pages picture other", "least_cost": "sizes pages picture other",
+        "unit_moves": "sizes pages picture level place to",
+    },
+    "takes": {
+        "least_hole": "sizes pages picture size", "place_for": "sizes pages picture size",
+        "taken": "sizes pages picture size handle", "all_taken": "sizes pages picture row",
+        "is_ready": "sizes pages picture", "bar": "sizes pages picture",
+    },
 }
 
 
@@ -41,6 +68,13 @@ class Interface(unittest.TestCase):
             for function, names in told.items():
                 self.assertIn(function, found)
                 self.assertEqual(parameters(found[function]), names, function)
+
+    def test_values_that_may_be_left_out(self):
+        for name, told in FUNCTIONS.items():
+            found = defined(name, ast.FunctionDef)
+            for function in told:
+                left_out = [ast.literal_eval(node) for node in found[function].args.defaults]
+                self.assertEqual(left_out, [None] if function == "taken" else [], function)
 
     def test_errors(self):
         found = defined("errors", ast.ClassDef)

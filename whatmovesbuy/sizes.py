@@ -2,7 +2,7 @@
 
 from whatmovesbuy.errors import BadPages, BadSizes, Broken, NoRoom, Refused
 from whatmovesbuy.words import check_octets, is_number, is_sequence, need_number
-from whatmovesbuy.words import number_octets, place_behind, read_number
+from whatmovesbuy.words import number_octets, place_behind, read_number, row_octets
 
 MOST_SIZES = 5
 GREATEST_SIZE = 64
@@ -170,24 +170,16 @@ def check_requests(sizes, value):
     return tuple([tuple(item) for item in value])
 
 
-def _row_octets(row):
-    """Return the octets of some numbers, one behind another."""
-    octets = []
-    for number in row:
-        octets.extend(number_octets(number))
-    return tuple(octets)
-
-
 def sizes_octets(sizes):
     """Return the octets of sizes: how many there are, and each."""
     sizes = check_sizes(sizes)
-    return _row_octets((len(sizes), *sizes))
+    return row_octets((len(sizes), *sizes))
 
 
 def pages_octets(pages):
     """Return the octets of pages: how many there are, and each."""
     pages = check_pages(pages)
-    return _row_octets((len(pages), *pages))
+    return row_octets((len(pages), *pages))
 
 
 def _request_number(sizes, request):
@@ -212,7 +204,7 @@ def request_octets(sizes, request):
 
 def write_requests(sizes, requests):
     """Return the octets of a sequence of requests, one behind another."""
-    return _row_octets([_request_number(sizes, request) for request in check_requests(sizes, requests)])
+    return row_octets([_request_number(sizes, request) for request in check_requests(sizes, requests)])
 
 
 def _read_counted(octets, at, least, most, can_follow):

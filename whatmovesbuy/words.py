@@ -45,6 +45,14 @@ def number_octets(number):
     return tuple(octets[::-1])
 
 
+def row_octets(row):
+    """Return the octets of some numbers, one behind another."""
+    octets = []
+    for number in row:
+        octets.extend(number_octets(number))
+    return tuple(octets)
+
+
 def place_behind(octets, at):
     """Return the place behind the number that begins here, None if the octets end within it.
 
