@@ -3,7 +3,7 @@
 import doctest
 import unittest
 
-FILES = ("section_3.txt", "section_4.txt", "section_5.txt", "section_6.txt", "section_7.txt", "../README.md")
+FILES = tuple(f"section_{at}.txt" for at in range(3, 15)) + ("../README.md",)
 
 
 class Examples(unittest.TestCase):

@@ -4,6 +4,12 @@ import ast
 import unittest
 from pathlib import Path
 
+from whatmovesbuy.eager import Eager
+from whatmovesbuy.judges import Retold
+from whatmovesbuy.keeper import Keeper
+from whatmovesbuy.plain import Plain, Wild
+from whatmovesbuy.reduction import Down, Up
+
 PACKAGE = Path(__file__).resolve().parent.parent / "whatmovesbuy"
 ERRORS = {
     "OwnError": None, "BadSizes": "self at", "BadPages": "self at", "BadPicture": "self at", "BadRun": "self at",
@@ -47,6 +53,37 @@ FUNCTIONS = {
         "taken": "sizes pages picture size handle", "all_taken": "sizes pages picture row",
         "is_ready": "sizes pages picture", "bar": "sizes pages picture",
     },
+    "serving": {
+        "step": "sizes pages picture level", "served": "sizes pages picture cells", "settled": "sizes pages picture",
+        "due": "sizes pages picture", "steps": "sizes pages picture", "loosest": "sizes pages picture",
+    },
+    "keeper": {"least_moves": "sizes"},
+    "judges": {
+        "follow": "store requests", "wrong_at": "sizes pages story", "measures": "sizes pages story",
+        "costs": "sizes pages story", "held_row": "sizes pages story", "refusals": "sizes pages story",
+        "judged": "sizes pages cells mosts story",
+    },
+    "foe": {
+        "arena": "sizes pages", "foe_many": "sizes pages", "foe_request": "sizes pages turn picture", "beaten": "store",
+    },
+    "eager": {
+        "eager_need": "sizes", "eager_plan": "sizes pages", "eager_many": "sizes pages",
+        "eager_request": "sizes pages picture", "eager_beaten": "store",
+    },
+}
+STORE = {"picture": "self", "take": "self size", "give": "self handle"}
+# of each class: what it is made of, what may be left out there, its methods, and its attributes
+CLASSES = {
+    ("keeper", "Keeper"): (
+        "self sizes pages picture taken", [(), 0],
+        STORE | {"kind": "self", "room": "self", "waiting": "self", "settle": "self", "free_pages": "self",
+                 "put_page": "self number", "drop_page": "self number"}, "sizes pages cells taken"),
+    ("judges", "Retold"): ("self sizes pages story", [], STORE, "sizes pages"),
+    ("plain", "Plain"): ("self sizes pages choices", [()], STORE, "sizes pages choices"),
+    ("plain", "Wild"): ("self sizes pages cells choices", [()], STORE, "sizes pages cells choices"),
+    ("reduction", "Down"): ("self store level", [], STORE, "store sizes pages"),
+    ("reduction", "Up"): ("self sizes plain", [], STORE, "sizes plain pages level small"),
+    ("eager", "Eager"): ("self sizes pages", [], STORE | {"room": "self"}, "sizes pages"),
 }
 
 
@@ -82,6 +119,24 @@ class Interface(unittest.TestCase):
         for name, names in ERRORS.items():
             methods = {node.name: parameters(node) for node in found[name].body if isinstance(node, ast.FunctionDef)}
             self.assertEqual(methods.get("__init__"), names, name)
+
+    def test_classes(self):
+        for (name, title), (names, left_out, told, _) in CLASSES.items():
+            found = defined(name, ast.ClassDef)[title]
+            methods = {node.name: node for node in found.body if isinstance(node, ast.FunctionDef)}
+            for method, given in (told | {"__init__": names}).items():
+                self.assertIn(method, methods)
+                self.assertEqual(parameters(methods[method]), given, f"{title}.{method}")
+                values = [ast.literal_eval(node) for node in methods[method].args.defaults]
+                self.assertEqual(values, left_out if method == "__init__" else [], f"{title}.{method}")
+
+    def test_attributes(self):
+        made = (Keeper((1, 2), (0,)), Retold((1, 2), (0,), ()), Plain((1, 2), (0,)), Wild((1, 2), (0,), 1),
+                Down(Plain((1, 2), (0,)), 0), Up((1, 2), Plain((2,), (0,))), Eager((1, 2), (0,)))
+        self.assertEqual([type(one).__name__ for one in made], [title for _, title in CLASSES])
+        for one, (_, _, _, names) in zip(made, CLASSES.values()):
+            for attribute in names.split():
+                self.assertIn(attribute, vars(one))
 
 
 if __name__ == "__main__":

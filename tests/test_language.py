@@ -113,6 +113,37 @@ class Language(unittest.TestCase):
             top += [node.name for node in tree.body if isinstance(node, (ast.FunctionDef, ast.ClassDef))]
             self.assertEqual(len(top), len(set(top)), path.name)
 
+    def test_no_inner_name_is_that_of_an_import_or_a_class(self):
+        for path in FILES:
+            tree = tree_of(path)
+            told = {alias.asname or alias.name for node in tree.body if isinstance(node, ast.ImportFrom)
+                    for alias in node.names} | {node.name for node in tree.body if isinstance(node, ast.ClassDef)}
+            for node in ast.walk(tree):
+                if isinstance(node, ast.FunctionDef):
+                    inner = set(bound_names(node)) - ({node.name} if node in tree.body else set())
+                    self.assertFalse(inner & told, f"{path.name}: {node.name}")
+
+    def test_methods_of_one_name_take_alike(self):
+        # a caller of store.take(size) need not know which store it is
+        found = {}
+        for path in FILES:
+            for one in ast.walk(tree_of(path)):
+                for node in one.body if isinstance(one, ast.ClassDef) else ():
+                    if isinstance(node, ast.FunctionDef) and node.name != "__init__":
+                        found.setdefault(node.name, set()).add(tuple(part.arg for part in node.args.args))
+        for name, told in found.items():
+            self.assertEqual(len(told), 1, name)
+
+    def test_no_name_is_a_method_and_an_attribute(self):
+        methods, attributes = set(), set()
+        for path in FILES:
+            for node in ast.walk(tree_of(path)):
+                if isinstance(node, ast.ClassDef):
+                    methods |= {part.name for part in node.body if isinstance(part, ast.FunctionDef)}
+                if isinstance(node, ast.Attribute) and isinstance(node.ctx, ast.Store):
+                    attributes.add(node.attr)
+        self.assertFalse(methods & attributes)
+
     def test_statements(self):
         for path in FILES:
             for node in ast.walk(tree_of(path)):

@@ -5,7 +5,7 @@ from whatmovesbuy.pictures import blocks_about, can_stand, check_picture, held_u
 from whatmovesbuy.words import is_number, is_sequence
 
 
-def _is_move(value):
+def is_move(value):
     """Tell whether any value is a move."""
     return is_sequence(value) and len(value) == 2 and is_number(value[0]) and is_number(value[1])
 
@@ -22,7 +22,7 @@ def _made(sizes, pages, picture, moves):
     held = held_units(sizes, picture, 0)
     found = []
     for at, move in enumerate(moves):
-        if not _is_move(move) or move[0] not in indexes:
+        if not is_move(move) or move[0] not in indexes:
             raise BadRun(at)
         index = indexes[move[0]]
         size = picture[index][1]

@@ -141,7 +141,7 @@ def minus(sizes, row, level):
     return tuple(found), broken
 
 
-def _is_request(sizes, value):
+def is_request(sizes, value):
     """Tell whether any value is a request by sizes that have been looked at."""
     if not is_sequence(value) or len(value) != 2:
         return False
@@ -154,7 +154,7 @@ def _is_request(sizes, value):
 def check_request(sizes, value):
     """Return any value as a request, a tuple; Refused(value) if it is none."""
     sizes = check_sizes(sizes)
-    if not _is_request(sizes, value):
+    if not is_request(sizes, value):
         raise Refused(value)
     return tuple(value)
 
@@ -165,7 +165,7 @@ def check_requests(sizes, value):
     if not is_sequence(value):
         raise Refused(value)
     for item in value:
-        if not _is_request(sizes, item):
+        if not is_request(sizes, item):
             raise Refused(value)
     return tuple([tuple(item) for item in value])
 

@@ -80,10 +80,8 @@ def loose_steps(sizes, pages, picture, level):
     return steps
 
 
-def kind(sizes, pages, picture):
-    """Return "smooth", "page" or "deep", None of a picture of no kind."""
-    picture = check_picture(sizes, pages, picture)
-    rows = _torn_rows(sizes, picture)
+def kind_of(rows):
+    """Return the kind of the picture whose torn units these are, by level below the greatest; None without one."""
     loose = _loose(rows)
     if not loose:
         return "smooth"
@@ -97,6 +95,12 @@ def kind(sizes, pages, picture):
     if loose[0] == below_pages:
         return "page"
     return "deep"
+
+
+def kind(sizes, pages, picture):
+    """Return "smooth", "page" or "deep", None of a picture of no kind."""
+    picture = check_picture(sizes, pages, picture)
+    return kind_of(_torn_rows(sizes, picture))
 
 
 def hole_counts(sizes, pages, picture):

@@ -25,6 +25,14 @@ def need_number(value):
     return value
 
 
+def in_tuples(value):
+    """Return any value with tuples instead of lists, also within."""
+    if not is_sequence(value):
+        return value
+    # Most items are numbers: asking here saves a call for each.
+    return tuple([in_tuples(item) if is_sequence(item) else item for item in value])
+
+
 def check_octets(value):
     """Return any value as octets, a tuple; BadOctets(at) if it is none."""
     if not is_sequence(value):
