@@ -1,6 +1,6 @@
 """Serving, and stores, done by the tests themselves: counted cell by cell, and slowly."""
 
-from tests.worlds import cells, free_set, held_set, hole_row, page_cells, torn_row
+from tests.worlds import cells, free_set, held_set, hole_row, page_cells, torn_row, unit_row
 
 
 class Refusal(Exception):
@@ -79,6 +79,50 @@ def put(sizes, pages, picture, handle, size):
     if not found:
         raise Refusal
     return tuple(sorted(picture + ((handle, size, min(found)[1]),)))
+
+
+def chosen_row(sizes, pages, picture, level):
+    """The holes that are chosen for a unit of a level, (level, place), and how many cells they have."""
+    rows = [hole for hole in hole_row(sizes, pages, picture) if hole[0] < level]
+    found, many = [], 0
+    for lower, place in sorted(rows, key=lambda hole: (-hole[0], hole[1])):
+        if many < sizes[level]:
+            found.append((lower, place))
+            many += sizes[lower]
+    return found, many
+
+
+def gather_at(sizes, pages, picture, level):
+    """(moves, place of the unit that is free behind them), each child looked at; Refusal if too few cells are free."""
+    great = [hole for hole in hole_row(sizes, pages, picture) if hole[0] >= level]
+    if great:
+        return (), min(great)[1]
+    row, many = chosen_row(sizes, pages, picture, level)
+    if many < sizes[level]:
+        raise Refusal
+    marked, moves = set(row), ()
+    for lower in range(level):
+        span = sizes[lower]
+        kids = {place: range(place, place + sizes[lower + 1], span) for place in unit_row(sizes, pages, lower + 1)}
+
+        def many_marked(place):
+            return sum((lower, kid) in marked for kid in kids[place])
+
+        while torn := [place for place in kids if 0 < many_marked(place) < len(kids[place])]:
+            giver = min(torn, key=lambda place: (-many_marked(place), place))
+            taker = min([place for place in torn if place != giver], key=lambda place: (many_marked(place), place))
+            kid = [start for start in kids[giver] if (lower, start) not in marked][0]
+            to = [start for start in kids[taker] if (lower, start) in marked][0]
+            within = sorted((place, handle) for handle, _, place in picture if kid <= place < kid + span)
+            made = tuple((handle, place - kid + to) for place, handle in within)
+            picture, _ = behind(sizes, pages, picture, made)
+            moves += made
+            marked ^= {(lower, to), (lower, kid)}
+        for place in [place for place in kids if many_marked(place)]:
+            marked -= {(lower, kid) for kid in kids[place]}
+            marked.add((lower + 1, place))
+    (_, place), = marked
+    return moves, place
 
 
 class KeeperModel:

@@ -6,7 +6,7 @@ import unittest
 
 from tests.test_sizes import WRONG_PAGES, WRONG_SIZES
 from tests.values import ANY, NO_SEQUENCES, caught, same
-from whatmovesbuy import moves, pictures, serving, takes, units
+from whatmovesbuy import gather, moves, pictures, serving, takes, units
 from whatmovesbuy.errors import BadPages, BadPicture, BadSizes
 
 SIZES, PAGES = (1, 2, 6), (0, 1, 4)
@@ -36,6 +36,7 @@ WITH_PICTURE = {
     takes.all_taken: (((1, 2, 2),), (None,)), takes.is_ready: ((), ()), takes.bar: ((), ()),
     serving.step: ((0,), (None,)), serving.served: ((1,), (None,)), serving.settled: ((), ()),
     serving.due: ((), ()), serving.steps: ((), ()), serving.loosest: ((), ()),
+    gather.chosen: ((2,), (None,)), gather.gathered: ((2,), (None,)),
 }
 WRONG_PICTURES = (
     (((0, 1, 1), (3, 2, 7)), 1), (((0, 1, 1), (0, 2, 8)), 1), (((0, 1, 1), (3, 2, 0)), 1), ((None,), 0),
@@ -66,8 +67,8 @@ def tuples_within(value):
 class Arguments(unittest.TestCase):
     def test_all_of_the_interface_are_here(self):
         told = {call.__name__ for call, _ in all_calls()}
-        self.assertEqual(len(told), 44)
-        self.assertEqual(len(list(all_calls())), 44)
+        self.assertEqual(len(told), 46)
+        self.assertEqual(len(list(all_calls())), 46)
 
     def test_lists_and_tuples_alike(self):
         for call, rest in all_calls():

@@ -3,7 +3,7 @@
 import doctest
 import unittest
 
-FILES = tuple(f"section_{at}.txt" for at in range(3, 15)) + ("../README.md",)
+FILES = tuple(f"section_{at}.txt" for at in range(3, 18)) + ("../README.md",)
 
 
 class Examples(unittest.TestCase):

@@ -3,7 +3,7 @@
 import time
 import unittest
 
-from whatmovesbuy import moves, pictures, takes, units
+from whatmovesbuy import gather, moves, pictures, takes, units
 from whatmovesbuy.errors import Broken
 from whatmovesbuy.words import number_octets
 
@@ -86,6 +86,23 @@ class Great(unittest.TestCase):
         self.assertEqual(len(full), 1300)
         self.assertFalse(self.soon(takes.is_ready, SIZES, PAGES, PICTURE))
         self.assertEqual(self.soon(takes.bar, SIZES, PAGES, PICTURE), (64,) * 37)
+
+    def test_of_gathering(self):
+        self.assertEqual(self.soon(gather.gathered, SIZES, PAGES, PICTURE, 4), ((), CELL + 64 * 32))
+        _, blocks = self.soon(gather.spread, SIZES)
+        worst = tuple((HANDLE + handle, size, CELL + place) for handle, size, place in blocks)
+        self.assertEqual(len(worst), 512)
+        self.assertEqual(len(self.soon(gather.chosen, SIZES, PAGES, worst, 4)), 64)
+        self.assertEqual(self.soon(gather.gather_least, SIZES, PAGES, worst), gather.gather_most(SIZES, 4))
+        told, place = self.soon(gather.gathered, SIZES, PAGES, worst, 4)
+        self.assertEqual((moves.cost(SIZES, PAGES, worst, told), place), (gather.gather_most(SIZES, 4), CELL))
+
+    def test_of_worst_pictures(self):
+        for sizes in ((1, 16), (1, 2, 4, 8, 16), (1, 64), (1, 2, 64), (1, 2, 4, 8, 64)):
+            pages, picture = self.soon(gather.spread, sizes)
+            self.assertEqual(self.soon(gather.gather_least, sizes, pages, picture), gather.gather_most(sizes, len(sizes) - 1))
+            self.assertEqual(len(self.soon(gather.chosen, sizes, pages, picture, len(sizes) - 1)), sizes[-1])
+            self.assertEqual(self.soon(gather.gathered, sizes, pages, picture, len(sizes) - 1)[1], 0)
 
 
 if __name__ == "__main__":

@@ -8,8 +8,11 @@ from tests.test_great import CELL, PAGES, PICTURE, SECONDS, SIZES
 from whatmovesbuy.eager import Eager, eager_beaten, eager_many, eager_plan
 from whatmovesbuy.errors import NoRoom
 from whatmovesbuy.foe import beaten, foe_many
+from whatmovesbuy.gather import gather_most, gathered
 from whatmovesbuy.judges import Retold, follow, judged, measures, refusals, wrong_at
 from whatmovesbuy.keeper import Keeper
+from whatmovesbuy.lazy import Lazy, lazy_beaten, lazy_many, lazy_request
+from whatmovesbuy.live import Live, pages_along
 from whatmovesbuy.plain import Plain, Wild
 from whatmovesbuy.reduction import Down, Up
 from whatmovesbuy.serving import due, served, settled, step, steps
@@ -116,6 +119,42 @@ class GreatStores(unittest.TestCase):
             self.assertEqual(store.room(), 205)
             self.assertEqual(store.take(64), (4096, ()))
             self.assertLess(time.perf_counter() - begin, SECONDS)
+
+    def test_lazy_stores(self):
+        for sizes in ROUGH:
+            store = Lazy(sizes, PAGES)
+            for _ in range(4096):
+                store.take(1)
+            # one cell of each page, then some more
+            for handle in list(range(0, 4096, 64)) + list(range(1, 4096, 128)):
+                store.give(handle)
+            picture = store.picture()
+            moves, place = self.soon(gathered, sizes, PAGES, picture, len(sizes) - 1)
+            self.assertEqual(self.soon(store.take, 64), (4096, moves))
+            self.assertEqual(store.picture()[-1], (4096, 64, place))
+            self.assertLessEqual(len(moves), gather_most(sizes, len(sizes) - 1))
+            self.assertGreater(len(moves), 30)
+            self.soon(store.give, 700)
+            self.soon(lazy_request, sizes, PAGES, 4100, picture)
+
+    def test_the_foe_of_lazy_stores(self):
+        for sizes in ((1, 16), (1, 2, 4, 8, 16), (1, 2, 32)):
+            self.assertIsNone(self.soon(lazy_beaten, Lazy(sizes, PAGES)))
+            self.assertEqual(self.soon(lazy_beaten, Plain(sizes, PAGES))[1], lazy_many(sizes, PAGES) - 1)
+
+    def test_live_stores(self):
+        for sizes in ROUGH:
+            live = Live(sizes)
+            for _ in range(4096):
+                live.take(1)
+            self.assertEqual((len(live.numbers()), live.in_use()), (64, 4096))
+            self.assertRaises(NoRoom, live.take, 1)
+            for handle in range(0, 4096, 40):
+                self.soon(live.give, handle)
+            self.assertEqual(self.soon(live.take, 64)[0], 4096)
+            self.assertEqual(len(live.numbers()), 64)
+            row = [("take", 64)] * 20 + [("take", 1)] * 200 + [("give", handle) for handle in range(20, 100)]
+            self.assertEqual(self.soon(pages_along, sizes, row)[-1], 22)
 
 
 if __name__ == "__main__":

@@ -7,6 +7,8 @@ from pathlib import Path
 from whatmovesbuy.eager import Eager
 from whatmovesbuy.judges import Retold
 from whatmovesbuy.keeper import Keeper
+from whatmovesbuy.lazy import Lazy
+from whatmovesbuy.live import Live
 from whatmovesbuy.plain import Plain, Wild
 from whatmovesbuy.reduction import Down, Up
 
@@ -70,6 +72,15 @@ FUNCTIONS = {
         "eager_need": "sizes", "eager_plan": "sizes pages", "eager_many": "sizes pages",
         "eager_request": "sizes pages picture", "eager_beaten": "store",
     },
+    "gather": {
+        "gather_most": "sizes level", "chosen": "sizes pages picture level", "gathered": "sizes pages picture level",
+        "gather_least": "sizes pages picture", "spread": "sizes",
+    },
+    "lazy": {
+        "lazy_bounds": "sizes pages", "lazy_many": "sizes pages", "lazy_request": "sizes pages turn picture",
+        "lazy_beaten": "store",
+    },
+    "live": {"pages_for": "sizes cells", "pages_along": "sizes requests"},
 }
 STORE = {"picture": "self", "take": "self size", "give": "self handle"}
 # of each class: what it is made of, what may be left out there, its methods, and its attributes
@@ -84,6 +95,8 @@ CLASSES = {
     ("reduction", "Down"): ("self store level", [], STORE, "store sizes pages"),
     ("reduction", "Up"): ("self sizes plain", [], STORE, "sizes plain pages level small"),
     ("eager", "Eager"): ("self sizes pages", [], STORE | {"room": "self"}, "sizes pages"),
+    ("lazy", "Lazy"): ("self sizes pages", [], STORE | {"room": "self"}, "sizes pages"),
+    ("live", "Live"): ("self sizes", [], STORE | {"numbers": "self", "in_use": "self"}, "sizes"),
 }
 
 
@@ -132,7 +145,8 @@ class Interface(unittest.TestCase):
 
     def test_attributes(self):
         made = (Keeper((1, 2), (0,)), Retold((1, 2), (0,), ()), Plain((1, 2), (0,)), Wild((1, 2), (0,), 1),
-                Down(Plain((1, 2), (0,)), 0), Up((1, 2), Plain((2,), (0,))), Eager((1, 2), (0,)))
+                Down(Plain((1, 2), (0,)), 0), Up((1, 2), Plain((2,), (0,))), Eager((1, 2), (0,)), Lazy((1, 2), (0,)),
+                Live((1, 2)))
         self.assertEqual([type(one).__name__ for one in made], [title for _, title in CLASSES])
         for one, (_, _, _, names) in zip(made, CLASSES.values()):
             for attribute in names.split():

@@ -2,7 +2,7 @@
 
 from whatmovesbuy.errors import NoRoom, Refused
 from whatmovesbuy.pictures import check_picture, unit_places
-from whatmovesbuy.sizes import check_pages, check_sizes
+from whatmovesbuy.sizes import check_pages, check_sizes, sizes_that_count
 from whatmovesbuy.words import in_tuples, is_number
 
 
@@ -10,13 +10,10 @@ def arena(sizes, pages):
     """Return the small size, the great size, and the places of the great units; Refused(sizes) if there is none."""
     told = check_sizes(sizes)
     pages = check_pages(pages)
-    great = len(told) - 1
-    # In one page alone a greatest block has room only while nothing else is there.
-    if len(pages) == 1:
-        great -= 1
-    if great < 1 or not pages:
+    counting, _ = sizes_that_count(told, pages)
+    if len(counting) == 1 or not pages:
         raise Refused(sizes)
-    return told[great - 1], told[great], tuple(unit_places(told, pages, great))
+    return counting[-2], counting[-1], tuple(unit_places(told, pages, len(counting) - 1))
 
 
 def _phases(small, great, places):

@@ -51,6 +51,23 @@ def check_pages(value):
     return tuple(value)
 
 
+def sizes_that_count(sizes, pages):
+    """Return the sizes that count in these pages, and how many units of the greatest of them there are."""
+    # In one page alone a greatest block has room only while nothing else is there.
+    if len(pages) == 1 and len(sizes) > 1:
+        return sizes[:-1], sizes[-1] // sizes[-2]
+    return sizes, len(pages)
+
+
+def need_counting(sizes, pages):
+    """Look at sizes and pages, and return what sizes_that_count does; Refused(pages) if there is no page."""
+    told = check_sizes(sizes)
+    row = check_pages(pages)
+    if not row:
+        raise Refused(pages)
+    return sizes_that_count(told, row)
+
+
 def ratios(sizes):
     """Return how often each size but the greatest goes into the next one."""
     sizes = check_sizes(sizes)

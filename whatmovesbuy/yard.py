@@ -108,10 +108,18 @@ class Yard:
         """Return which of these pages have no held cell, ascending."""
         return [page for page in pages if page * self.sizes[-1] not in self.parts[-1]]
 
+    def _free_children(self, level, place):
+        """Return the places of the free children of a torn unit, ascending."""
+        return [child for child in child_places(self.sizes, level, place) if child not in self.parts[level - 1]]
+
     def _free_child(self, level, place):
         """Return the place of the first free child of a torn unit."""
-        found = [child for child in child_places(self.sizes, level, place) if child not in self.parts[level - 1]]
-        return found[0]
+        return self._free_children(level, place)[0]
+
+    def hole_places(self, level):
+        """Return the places of the holes of a level below the greatest, ascending."""
+        # They are the free children of torn units.
+        return [child for place in sorted(self.torn[level + 1]) for child in self._free_children(level + 1, place)]
 
     def place_for(self, size, pages):
         """Return the place of the least hole for a size in these pages; None without one."""
@@ -148,10 +156,17 @@ class Yard:
         """Return the moves of one step at a level above which two units or more are torn; nothing is moved."""
         giver, taker = self._giver_and_taker(level)
         given = [child for child in child_places(self.sizes, level + 1, giver) if child in self.parts[level]]
-        begin = given[0]
-        to = self._free_child(level + 1, taker)
+        return self.unit_moves(level, given[0], self._free_child(level + 1, taker))
+
+    def unit_moves(self, level, begin, to):
+        """Return the moves that bring the blocks within a unit to a free one of its level; nothing is moved."""
         starts = range(begin, begin + self.sizes[level], self.sizes[0])
         return [(self.begun[start], to + start - begin) for start in starts if start in self.begun]
+
+    def make(self, moves):
+        """Move blocks, one after another, each to a unit that is free then."""
+        for handle, to in moves:
+            self.shift(handle, to)
 
     def serve(self, cells):
         """Make one step at the loosest level after another, as long as so many cells last (None: without a bound).
@@ -168,8 +183,7 @@ class Yard:
                 if paid > left:
                     break
                 left -= paid
-            for handle, to in moves:
-                self.shift(handle, to)
+            self.make(moves)
             made.append((level, paid, moves))
             level = self.loosest()
         return made
