@@ -265,6 +265,7 @@ class Least(unittest.TestCase):
         self.assertEqual(gather_least((1, 2, 4), (0, 1), ((0, 2, 0), (1, 2, 4))), 2)
         self.assertEqual(gather_least((1, 2, 4), (0, 1), ((0, 2, 0), (1, 1, 4), (2, 1, 5))), 0)
         self.assertEqual(gather_least((1, 2, 4), (0, 1), ((0, 1, 0), (1, 1, 2), (2, 2, 4))), 1)
+        self.assertEqual(gather_least((1, 2, 4), (0, 1), ((0, 2, 0), (1, 1, 2), (2, 1, 4))), 1)
         self.assertEqual(gather_least((1, 2, 4), (3,), ()), 0)
 
     def test_other_pictures(self):

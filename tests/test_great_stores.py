@@ -5,6 +5,8 @@ import time
 import unittest
 
 from tests.test_great import CELL, PAGES, PICTURE, SECONDS, SIZES
+from whatmovesbuy.books import Journal, opened
+from whatmovesbuy.desk import Desk, resumed
 from whatmovesbuy.eager import Eager, eager_beaten, eager_many, eager_plan
 from whatmovesbuy.errors import NoRoom
 from whatmovesbuy.foe import beaten, foe_many
@@ -155,6 +157,36 @@ class GreatStores(unittest.TestCase):
             self.assertEqual(len(live.numbers()), 64)
             row = [("take", 64)] * 20 + [("take", 1)] * 200 + [("give", handle) for handle in range(20, 100)]
             self.assertEqual(self.soon(pages_along, sizes, row)[-1], 22)
+
+    def test_journals(self):
+        for sizes in ROUGH:
+            keeper = Keeper(sizes, PAGES)
+            for _ in range(4096):
+                keeper.take(1)
+            # it begins with 64 pages full of small blocks
+            journal = Journal(sizes, PAGES, keeper.picture(), keeper.taken)
+            for handle in range(0, 4096, 28):
+                journal.give(handle)
+                journal.take(1)
+            octets = self.soon(journal.octets)
+            again, behind = self.soon(opened, octets)
+            self.assertEqual(behind, len(octets))
+            self.assertEqual(len(again.records()), 294)
+            back = self.soon(again.rewound, 293)
+            self.assertEqual(len(back.picture()), 4095)
+            self.assertEqual(self.soon(journal.folded).picture(), again.picture())
+
+    def test_desks(self):
+        for sizes in ROUGH:
+            desk = Desk(sizes, PAGES)
+            for _ in range(4096):
+                desk.tell("take 1")
+            for line in ("room", "show", "holes", "take 1", "give 77", "give 1000", "holes", "room", "journal", "buys 7",
+                         "put 1", "drop 1", "back", "back", "take 1", "back"):
+                self.assertIsInstance(self.soon(desk.tell, line), str)
+            self.assertEqual(desk.tell("room"), "1 free; 0 waiting; smooth")
+            octets = desk.journal.octets()
+            self.assertEqual(self.soon(resumed, octets)[1], len(octets))
 
 
 if __name__ == "__main__":

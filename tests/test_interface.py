@@ -4,6 +4,8 @@ import ast
 import unittest
 from pathlib import Path
 
+from whatmovesbuy.books import Journal
+from whatmovesbuy.desk import Desk
 from whatmovesbuy.eager import Eager
 from whatmovesbuy.judges import Retold
 from whatmovesbuy.keeper import Keeper
@@ -81,7 +83,13 @@ FUNCTIONS = {
         "lazy_beaten": "store",
     },
     "live": {"pages_for": "sizes cells", "pages_along": "sizes requests"},
+    "game": {"keeps": "sizes pages cells moves when"},
+    "books": {"opened": "octets at"},
+    "meaning": {"full_amount": "sizes pages when", "above": "sizes moves", "verdict": "sizes pages moves"},
+    "desk": {"read_line": "text", "write_line": "deed number", "resumed": "octets"},
 }
+# what may be left out
+LEFT_OUT = {"taken": [None], "opened": [0], "write_line": [None]}
 STORE = {"picture": "self", "take": "self size", "give": "self handle"}
 # of each class: what it is made of, what may be left out there, its methods, and its attributes
 CLASSES = {
@@ -97,6 +105,11 @@ CLASSES = {
     ("eager", "Eager"): ("self sizes pages", [], STORE | {"room": "self"}, "sizes pages"),
     ("lazy", "Lazy"): ("self sizes pages", [], STORE | {"room": "self"}, "sizes pages"),
     ("live", "Live"): ("self sizes", [], STORE | {"numbers": "self", "in_use": "self"}, "sizes"),
+    ("books", "Journal"): (
+        "self sizes pages picture taken", [(), 0],
+        STORE | {"put_page": "self number", "drop_page": "self number", "lead": "self record", "records": "self",
+                 "octets": "self", "folded": "self", "rewound": "self many"}, "keeper"),
+    ("desk", "Desk"): ("self sizes pages", [], {"tell": "self text"}, "journal"),
 }
 
 
@@ -112,6 +125,16 @@ def parameters(node):
 
 
 class Interface(unittest.TestCase):
+    def test_every_row(self):
+        # how many names each file has in the document's list
+        told = {"errors": 13, "words": 2, "sizes": 19, "pictures": 16, "units": 9, "moves": 7, "takes": 6, "serving": 6,
+                "keeper": 2, "judges": 8, "foe": 4, "plain": 2, "reduction": 2, "eager": 6, "gather": 5, "lazy": 5, "live": 3,
+                "game": 1, "books": 2, "meaning": 3, "desk": 4}
+        found = {name: len(functions) for name, functions in FUNCTIONS.items()} | {"errors": len(ERRORS)}
+        for name, _ in CLASSES:
+            found[name] = found.get(name, 0) + 1
+        self.assertEqual(found, told)
+
     def test_functions(self):
         for name, told in FUNCTIONS.items():
             found = defined(name, ast.FunctionDef)
@@ -124,7 +147,7 @@ class Interface(unittest.TestCase):
             found = defined(name, ast.FunctionDef)
             for function in told:
                 left_out = [ast.literal_eval(node) for node in found[function].args.defaults]
-                self.assertEqual(left_out, [None] if function == "taken" else [], function)
+                self.assertEqual(left_out, LEFT_OUT.get(function, []), function)
 
     def test_errors(self):
         found = defined("errors", ast.ClassDef)
@@ -146,7 +169,7 @@ class Interface(unittest.TestCase):
     def test_attributes(self):
         made = (Keeper((1, 2), (0,)), Retold((1, 2), (0,), ()), Plain((1, 2), (0,)), Wild((1, 2), (0,), 1),
                 Down(Plain((1, 2), (0,)), 0), Up((1, 2), Plain((2,), (0,))), Eager((1, 2), (0,)), Lazy((1, 2), (0,)),
-                Live((1, 2)))
+                Live((1, 2)), Journal((1, 2), (0,)), Desk((1, 2), (0,)))
         self.assertEqual([type(one).__name__ for one in made], [title for _, title in CLASSES])
         for one, (_, _, _, names) in zip(made, CLASSES.values()):
             for attribute in names.split():

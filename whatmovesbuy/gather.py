@@ -39,8 +39,8 @@ def _giver_and_taker(counts):
     """Return the unit that gives and the one that takes, by how many chosen children each has that has some to go."""
     places = sorted(counts)
     # Of several the first one is found, which is the one of least place.
-    giver = max(places, key=lambda place: counts[place])
-    taker = min([place for place in places if place != giver], key=lambda place: counts[place])
+    giver = max(places, key=lambda about: counts[about])
+    taker = min([place for place in places if place != giver], key=lambda about: counts[about])
     return giver, taker
 
 
@@ -51,11 +51,14 @@ def _fill_units(yard, lower, places):
     """
     within = {}
     for place in places:
-        within.setdefault(place_about(yard.sizes, lower + 1, place), {})[place] = True
+        about = place_about(yard.sizes, lower + 1, place)
+        if about not in within:
+            within[about] = {}
+        within[about][place] = True
     ratio = ratios(yard.sizes)[lower]
     made = []
     while True:
-        counts = {about: len(within[about]) for about in within if 0 < len(within[about]) < ratio}
+        counts = {unit: len(within[unit]) for unit in within if 0 < len(within[unit]) < ratio}
         if not counts:
             break
         giver, taker = _giver_and_taker(counts)
@@ -66,7 +69,7 @@ def _fill_units(yard, lower, places):
         made.extend(moves)
         del within[taker][to]
         within[giver][given] = True
-    return made, [about for about in within if within[about]]
+    return made, [unit for unit in within if within[unit]]
 
 
 def gather(yard, pages, level):

@@ -27,10 +27,8 @@ class Lazy:
 
     def take(self, size):
         """Gather a unit of this size and put a block there; return its handle and the moves."""
-        level = need_size(self.sizes, size)
-        if self.room() < size:
-            raise NoRoom(size)
-        moves, place = gather(self._yard, self.pages, level)
+        # Gathering is what refuses if too few cells are free.
+        moves, place = gather(self._yard, self.pages, need_size(self.sizes, size))
         handle = self._next
         self._yard.put(handle, size, place)
         self._next += 1
